@@ -216,6 +216,8 @@ var (
 	oneLabel = regexp.MustCompile(`(` + nameForm + `) *= *(` + valueForm + `)`)
 	// upToValue goes up to the last value that may begin.
 	upToValue = regexp.MustCompile(headForm + nameForm + ` *= *`)
+	// ended is a value that has its end, whether Unquote takes it or not.
+	ended = regexp.MustCompile(`^"(?s:[^"\\]|\\.)*"`)
 )
 
 // parseOf is what the chapter says of Parse, for names that are not too long.
@@ -233,12 +235,11 @@ func parseOf(s string) ([]api.Label, api.Errno, int) {
 		return set, api.OK, 0
 	}
 	if m := upToValue.FindStringIndex(s); m != nil && strings.HasPrefix(s[m[1]:], `"`) {
-		_, errno, n := text.Unquote(s[m[1]:])
-		switch {
-		case errno == api.OK:
-		case m[1]+n == len(s):
+		value := ended.FindString(s[m[1]:])
+		if value == "" {
 			return nil, api.ErrLabelsForm, len(s)
-		default:
+		}
+		if _, errno, _ := text.Unquote(value); errno != api.OK {
 			return nil, api.ErrLabelsForm, m[1]
 		}
 	}

@@ -92,14 +92,29 @@ func (r *reader) value() (string, bool) {
 	if !strings.HasPrefix(r.rest(), `"`) {
 		return "", false
 	}
-	value, errno, n := text.Unquote(r.rest())
-	if errno == api.OK {
-		r.pass(n)
-		return value, true
-	}
-	// Where nothing is wrong but that the text ends, its end is told, and not where the value begins.
-	if n == len(r.rest()) {
+	// A text that ends within a value ends too early, whatever Unquote would say of what is there: its end is told, and not where the value begins.
+	n := closedAt(r.rest())
+	if n == 0 {
 		r.at = len(r.s)
+		return "", false
 	}
-	return "", false
+	value, errno, _ := text.Unquote(r.rest()[:n])
+	if errno != api.OK {
+		return "", false
+	}
+	r.pass(n)
+	return value, true
+}
+
+// closedAt is how many bytes the string between quotes takes that s begins with; 0: no quote closes it. The byte behind a backslash closes nothing, also where both are no escape that Unquote knows.
+func closedAt(s string) int {
+	for at := 1; at < len(s); at++ {
+		switch s[at] {
+		case '"':
+			return at + 1
+		case '\\':
+			at++
+		}
+	}
+	return 0
 }

@@ -1,6 +1,7 @@
 package labels_test
 
 import (
+	"slices"
 	"strings"
 	"testing"
 
@@ -385,25 +386,34 @@ func both(value string) []api.Label {
 	return list("a", value, "b", value)
 }
 
-// Each of these values has an escape that is none, or a newline; what is told is where the value begins, whatever follows, or if nothing does.
+// wrong are values without their end that Unquote rejects: each has an escape that is none, or a newline.
+func wrong() []string {
+	return []string{
+		`"\q`, `"\ `, `"\}`, `"\,`, `"\0x`, `"\8`, `"\9`, `"\e`, `"\N`, `"\X41`, `"\x4g`, `"\xg`, `"\08`, `"\078`, `"\400`, `"\777`,
+		`"\u00g`, `"\ud800`, `"\udfff`, `"\uDC00`, `"\U00110000`, `"\Uffffffff`, `"\U0000d800`, "\"\\`", "\"\\\n", "\"\\\xff", "\"\\\u00e9",
+		"\"\n", "\"x\n", "\"x\ny", "\"\\n\n", `"x\"\q`, `"\\\q`, `"\q\"`, `"\q\\`, `"xxxxxxxxxxxxxxxxxxxxxx\q`,
+	}
+}
+
+// lacking are values without their end whose last escape has too few digits.
+func lacking() []string {
+	return []string{`"\x`, `"\x4`, `"\0`, `"\07`, `"\4`, `"\40`, `"\u`, `"\u0`, `"\u004`, `"\ud8`, `"\U`, `"\U0000004`, `"\U0011`}
+}
+
+// heads are what may stand ahead of a value.
+func heads() []string {
+	return []string{`{a=`, `  { a =  `, `{b="1",a=`, `{b="1", a= `, `{a="1",a=`, `{b="\"",a=`, `{b="",a=`, `{b="\\",a=`}
+}
+
+// What is told is where the value begins, whatever follows its end, or if nothing does.
 func TestParseOfValuesThatUnquoteRejects(t *testing.T) {
-	for _, begin := range []string{
-		`"\q`, `"\ `, `"\0x`, `"\8`, `"\9`, `"\e`, `"\N`, `"\X41`, `"\x4g`, `"\xg`, `"\x"`, `"\x4"`, `"\08`, `"\07"`, `"\078`, `"\0"`,
-		`"\400`, `"\777`, `"\400"`, `"\u004`, `"\u"`, `"\u004"`, `"\u00g`, `"\ud800`, `"\udfff`, `"\uDC00"`, `"\U00110000`, `"\Uffffffff`, `"\U0000d800`, `"\U0000004"`, "\"\\`", "\"\\\n", "\"\\\xff",
-		"\"\n", "\"x\n", "\"\n\"", "\"x\ny\"", "\"\\n\n\"", `"x\"\q"`, `"xxxxxxxxxxxxxxxxxxxxxx\q`,
-	} {
-		for _, behind := range []string{"", `"`, `"}`, `x"}`, `z`, `", b="1"}`, "\n", "\"\n}"} {
-			s := begin + behind
-			_, errno, n := text.Unquote(s)
-			if errno == api.OK || n == len(s) {
-				// Digits of the escape were still to come, and what is laid behind has some.
-				continue
+	for _, value := range slices.Concat(wrong(), lacking()) {
+		for _, rest := range []string{`"`, `x"`, ` "`, "\n\"", `\""`, `\\"`, `\q\\\""`} {
+			for _, behind := range []string{"", `}`, `"`, `"}`, `z`, `\`, `, b="1"}`, `, b="\`, "\n}"} {
+				for _, head := range heads() {
+					breaks(t, head+value+rest+behind, len(head))
+				}
 			}
-			breaks(t, `{a=`+s, 3)
-			breaks(t, `  { a =  `+s, 9)
-			breaks(t, `{b="1",a=`+s, 9)
-			breaks(t, `{b="1", a= `+s, 11)
-			breaks(t, `{a="1",a=`+s, 9)
 		}
 	}
 	for _, s := range []string{`'1'`, "`1`", `'1`, "`1", `'`, "`", `''`, `1`, `x`, `\"1\"`, `\`, "\n", "“1”"} {
@@ -416,15 +426,50 @@ func TestParseOfValuesThatUnquoteRejects(t *testing.T) {
 	breaks(t, `{a="1"\"`, 6)
 }
 
-// The text ends within a value, and could go on: the end is told.
+// The text ends within a value: the end is told, whatever Unquote says of what is there.
 func TestParseOfValuesThatEndTooEarly(t *testing.T) {
-	for _, value := range []string{`"`, `"x`, `"\`, `"\x`, `"\x4`, `"\0`, `"\07`, `"\4`, `"\40`, `"\u`, `"\u004`, `"\ud8`, `"\U`, `"\U0000004`, `"\U0011`, `"\"`, `"\\\"`, `"x, b=`, `"x}`, `" `, `"'`, `"\n`} {
-		for _, head := range []string{`{a=`, `  {  a  =  `, `{b="1",a=`, `{b="\"",a=`} {
-			s := head + value
-			breaks(t, s, len(s))
+	fine := []string{`"`, `"x`, `"\"`, `"\\`, `"\\\"`, `"x, b=`, `"x}`, `" `, `"'`, `"\n`, `"\x41`, `"\101`, `"\u0041`}
+	for _, value := range slices.Concat(fine, wrong(), lacking()) {
+		for _, rest := range []string{"", `x`, `4`, `}`, `, b=`, `'`, "`", "\n", `\`, `\q`, `\"`, `\"}`, `\\\"}`, `\\\`, "\n\\\"}"} {
+			for _, head := range heads() {
+				s := head + value + rest
+				breaks(t, s, len(s))
+			}
 		}
 	}
+}
+
+// Side by side: without its end the text's length is told of a value, with it where the value begins.
+func TestParseOfValuesWithAndWithoutAnEnd(t *testing.T) {
+	breaks(t, `{c="\}`, 6)
+	breaks(t, `{c="\}"`, 3)
+	breaks(t, `{a="\q`, 6)
+	breaks(t, `{a="\q"`, 3)
+	breaks(t, "{a=\"x\ny", 7)
+	breaks(t, "{a=\"x\ny\"", 3)
+	breaks(t, `{a="\ud800`, 10)
+	breaks(t, `{a="\ud800"`, 3)
+	breaks(t, `{a="",_="\}`, 11)
+	breaks(t, `{a="",_="\}"`, 8)
+	breaks(t, `{a="\q\"}`, 9)
+	breaks(t, `{a="\q\"}"`, 3)
+	breaks(t, `{a="\x4`, 7)
 	breaks(t, `{a="\x4"`, 3)
+}
+
+// A quote ends a value unless the backslashes ahead of it are odd in number, whatever stands before them.
+func TestParseOfBackslashesAheadOfAQuote(t *testing.T) {
+	for n := range 40 {
+		slashes := strings.Repeat(`\`, n)
+		s, rejected := `{a="x`+slashes+`"}`, `{a="\q`+slashes+`"}`
+		if n%2 == 0 {
+			parses(t, s, list("a", "x"+slashes[:n/2]))
+			breaks(t, rejected, 3)
+		} else {
+			breaks(t, s, len(s))
+			breaks(t, rejected, len(rejected))
+		}
+	}
 }
 
 // With the form kept Set decides, and the length of the text is told beside its error.
@@ -477,6 +522,7 @@ func TestParseOfChangedTexts(t *testing.T) {
 		`{}`, ` { } `, `{a="1"}`, `{a="1",}`, `{a="1", b="x"}`, ` { b = "x" , a = "1" , } `, `{_0="", A="}"}`,
 		`{a="\n\\\"",b=""}`, `{a="\x4a\101"}`, `{a="\u00e9"}`, `{a="\ud7ff"}`, `{a="\U0010ffff"}`,
 		`{a="x`, `{a="\u00`, `{a="1" b`, `{a="1",a="1"}`,
+		`{a="\q`, `{a="\q"}`, `{a="\q\"}`, "{a=\"x\ny", "{a=\"x\ny\"}", `{a="",_="\ud800"`,
 	} {
 		asTheChapter(t, s)
 		for at := range len(s) + 1 {
@@ -496,7 +542,7 @@ func TestParseOfChangedTexts(t *testing.T) {
 
 // All texts of a few of the bytes that the form is made of, behind beginnings of it.
 func TestParseOfAllShortTexts(t *testing.T) {
-	const bytes = ` {}=,"a0\`
+	const bytes = " {}=,\"a0\\\n"
 	var grow func(s string, left int)
 	grow = func(s string, left int) {
 		asTheChapter(t, s)
@@ -508,7 +554,7 @@ func TestParseOfAllShortTexts(t *testing.T) {
 		}
 	}
 	grow("", 4)
-	for _, head := range []string{`{a`, `{a="`, `{a="a"`, `{a="a",`, `{a="",b="\`, `{ }`} {
+	for _, head := range []string{`{a`, `{a="`, `{a="a"`, `{a="a",`, `{a="",b="\`, `{a="",b="\q`, `{ }`} {
 		grow(head, 4)
 	}
 }
